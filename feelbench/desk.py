@@ -77,6 +77,56 @@ def call_still(bench, reader):
     return bench.still_filter(reader.take())
 
 
+def call_thin(bench, reader):
+    a = reader.take()
+    m = reader.take()
+    return bench.thin_row(a, m, reader.take())
+
+
+def call_stretch(bench, reader):
+    a = reader.take()
+    return bench.stretch_row(a, reader.take())
+
+
+def call_mix(bench, reader):
+    a = reader.take()
+    b = reader.take()
+    c = reader.take()
+    return bench.mix_rows(a, b, c, reader.take())
+
+
+def call_join(bench, reader):
+    a = reader.take()
+    return bench.join_rows(a, reader.take())
+
+
+def call_patterns(bench, reader):
+    a = reader.take()
+    start = reader.take()
+    return bench.tell_patterns(a, start, reader.take())
+
+
+def call_passes(bench, reader):
+    a = reader.take()
+    low = reader.take()
+    high = reader.take()
+    return bench.tell_passes(a, low, high, reader.take())
+
+
+def call_late(bench, reader):
+    a = reader.take()
+    b = reader.take()
+    return bench.tell_late(a, b, reader.take())
+
+
+def call_sums(bench, reader):
+    return bench.tell_sums(reader.take())
+
+
+def call_state(bench, reader):
+    return bench.tell_state()
+
+
 CALLS = {
     1: call_new,
     2: call_track,
@@ -87,6 +137,15 @@ CALLS = {
     7: call_run,
     8: call_blend,
     9: call_still,
+    10: call_thin,
+    11: call_stretch,
+    12: call_mix,
+    13: call_join,
+    14: call_patterns,
+    15: call_passes,
+    16: call_late,
+    17: call_sums,
+    18: call_state,
 }
 
 

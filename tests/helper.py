@@ -63,6 +63,42 @@ def still(f):
     return [9, f]
 
 
+def thin(a, m, first):
+    return [10, a, m, first]
+
+
+def stretch(a, step):
+    return [11, a, step]
+
+
+def mix(a, b, c, d):
+    return [12, a, b, c, d]
+
+
+def join(a, b):
+    return [13, a, b]
+
+
+def patterns(a, start, k):
+    return [14, a, start, k]
+
+
+def passes(a, low, high, most=4096):
+    return [15, a, low, high, most]
+
+
+def late(a, b, most):
+    return [16, a, b, most]
+
+
+def sums(a):
+    return [17, a]
+
+
+def state():
+    return [18]
+
+
 def flat(calls):
     return [x for call in calls for x in call]
 
@@ -103,6 +139,11 @@ def sensed(track_call, sense_call):
     told = ask(track_call, sense_call, *[get(a) for a in range(made)])
     assert told[:2] == [[0], [0]], told
     return [part[2:] for part in told[2:]]
+
+
+def doubled(samples, times):
+    """Calls that make row 0 of these samples, then rows 1, 2, ..., each the one before it twice over."""
+    return [row(9, samples)] + [join(a, a) for a in range(times)]
 
 
 def rows_made(count):

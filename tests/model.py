@@ -162,12 +162,109 @@ class Model:
         self.filters[f][2] = []
         return [0]
 
+    def has_rows(self, *numbers):
+        return all(0 <= a < len(self.rows) for a in numbers)
+
+    def thin(self, a, m, first):
+        if not 1 <= m <= 65536 or not 0 <= first <= m - 1:
+            return [-8]
+        if not self.has_rows(a):
+            return [-2]
+        rate, samples = self.rows[a]
+        return self.row(max(1, math.floor(Fraction(rate, m))), [x for i, x in enumerate(samples) if i % m == first])
+
+    def stretch(self, a, step):
+        if not 1 <= step <= 16777216:
+            return [-8]
+        if not self.has_rows(a):
+            return [-2]
+        rate, samples = self.rows[a]
+        made = []
+        for j in range(65536):
+            i, f = divmod(j * step, 65536)
+            if i + 1 >= len(samples):
+                break
+            made.append(samples[i] + r((samples[i + 1] - samples[i]) * f, 16))
+        return self.row(min(max(math.floor(Fraction(65536 * rate, step)), 1), 65536), made)
+
+    def mix(self, a, b, c, d):
+        if hold(c, 16) != c or hold(d, 16) != d:
+            return [-8]
+        if not self.has_rows(a, b):
+            return [-2]
+        if len(self.rows) == 256:
+            return [-1]
+        (rate, xs), (_, ys) = self.rows[a], self.rows[b]
+        if len(xs) != len(ys):
+            return [-3]
+        return self.row(rate, [hold(r(c * x + d * y, 15), 16) for x, y in zip(xs, ys)])
+
+    def join(self, a, b):
+        if not self.has_rows(a, b):
+            return [-2]
+        if len(self.rows) == 256:
+            return [-1]
+        made = self.rows[a][1] + self.rows[b][1]
+        if len(made) > 65536:
+            return [-3]
+        return self.row(self.rows[a][0], made)
+
+    def patterns(self, a, start, k):
+        if start < 0 or not 0 <= k <= 10:
+            return [-8]
+        if not self.has_rows(a):
+            return [-2]
+        xs = self.rows[a][1][start:start + 2 ** k]
+        if len(xs) < 2 ** k:
+            return [-3]
+        for bit in range(k):
+            h = 2 ** bit
+            pairs = {i: (xs[i], xs[i + h]) for i in range(2 ** k) if i // h % 2 == 0}
+            for i, (x, y) in pairs.items():
+                xs[i], xs[i + h] = r(x + y, 1), r(x - y, 1)
+        return [0] + xs
+
+    def passes(self, a, low, high, most):
+        if hold(low, 16) != low or hold(high, 16) != high or low > high or not 0 <= most <= 4096:
+            return [-8]
+        if not self.has_rows(a):
+            return [-2]
+        states = [0]
+        for x in self.rows[a][1]:
+            states.append(1 if x >= high else 0 if x < low else states[-1])
+        changes = [(i, states[i + 1]) for i in range(len(states) - 1) if states[i] != states[i + 1]]
+        return [len(changes)] + [x for change in changes[:most] for x in change]
+
+    def late(self, a, b, most):
+        if not 0 <= most <= 1024:
+            return [-8]
+        if not self.has_rows(a, b):
+            return [-2]
+        xs, ys = self.rows[a][1], self.rows[b][1]
+        found = [(lag_sum(xs, ys, d), -abs(d), d) for d in range(-most, most + 1)]
+        return [0, max(found)[2], max(found)[0]]
+
+    def sums(self, a):
+        if not self.has_rows(a):
+            return [-2]
+        xs = sorted(self.rows[a][1])
+        ends = [xs[0], xs[-1]] if xs else [0, 0]
+        return [len(xs)] + ends + [sum(xs), sum(x ** 2 for x in xs)]
+
+    def state(self):
+        return [0, len(self.tracks), len(self.rows), len(self.filters)]
+
     def through(self, f, new):
         """All that the filter was ever given is kept, and gone through anew each time."""
         kind, taps, old = self.filters[f]
         given = old + new
         self.filters[f][2] = given
         return WAYS[kind](taps, given)[len(old):]
+
+
+def lag_sum(xs, ys, d):
+    first, end = max(0, -d), min(len(xs), len(ys) - d)
+    return sum(xs[i] * ys[i + d] for i in range(first, end))
 
 
 def sample_before(given, i, k):

@@ -6,7 +6,8 @@ import unittest
 
 from feelbench.desk import answers
 from tests.helper import (
-    blend, filter_, flat, get, new, row, run, sense, split, still, track_bits,
+    blend, filter_, flat, get, join, late, mix, new, passes, patterns, row, run, sense, split, state, still, stretch,
+    sums, thin, track_bits,
 )
 from tests.model import Model
 
@@ -107,6 +108,59 @@ def some_call(chance):
     return new()
 
 
+def some_shape(chance, top):
+    """A call of points 10 to 13, on rows up to top."""
+    a, b = some_number(chance, 0, top), some_number(chance, 0, top)
+    way = chance.randrange(4)
+    if way == 0:
+        m = chance.choice((1, 2, 3, chance.randint(1, 20), some_number(chance, 1, 65536)))
+        return thin(a, m, chance.choice((0, chance.randint(0, 3), some_number(chance, 0, max(m - 1, 0)))))
+    if way == 1:
+        # Small steps would make rows too long for the slow model.
+        return stretch(a, chance.choice((65536, chance.randint(5000, 200000), chance.randint(65536, 16777217), 0, -1)))
+    if way == 2:
+        return mix(a, b, *(chance.choice((some_sample(chance), some_number(chance, -32768, 32767))) for _ in range(2)))
+    return join(a, b)
+
+
+def some_finding(chance, top):
+    """A call of points 14 to 18, on rows up to top."""
+    a, b = some_number(chance, 0, top), some_number(chance, 0, top)
+    way = chance.randrange(5)
+    if way == 0:
+        return patterns(a, some_number(chance, 0, 6), chance.choice((0, 1, 2, 3, some_number(chance, 0, 10))))
+    if way == 1:
+        low, high = sorted((some_sample(chance), some_sample(chance)))
+        low, high = chance.choice(((low, high), (low, low), (high, low), (low, 32768), (-32769, high)))
+        return passes(a, low, high, chance.choice((chance.randint(0, 5), some_number(chance, 0, 4096))))
+    if way == 2:
+        return late(a, b, chance.choice((chance.randint(0, 12), some_number(chance, 0, 70), 1025)))
+    if way == 3:
+        return sums(a)
+    return state()
+
+
+MODEL_CALLS = {
+    2: lambda model, call: model.track(call[1], call[2], call[4:]),
+    3: lambda model, call: model.sense(*call[1:7], call[8:]),
+    4: lambda model, call: model.row(call[1], call[3:]),
+    5: lambda model, call: model.get(*call[1:]),
+    6: lambda model, call: model.filter(call[1], call[3:]),
+    7: lambda model, call: model.run(*call[1:]),
+    8: lambda model, call: model.blend(*call[1:]),
+    9: lambda model, call: model.still(*call[1:]),
+    10: lambda model, call: model.thin(*call[1:]),
+    11: lambda model, call: model.stretch(*call[1:]),
+    12: lambda model, call: model.mix(*call[1:]),
+    13: lambda model, call: model.join(*call[1:]),
+    14: lambda model, call: model.patterns(*call[1:]),
+    15: lambda model, call: model.passes(*call[1:]),
+    16: lambda model, call: model.late(*call[1:]),
+    17: lambda model, call: model.sums(*call[1:]),
+    18: lambda model, call: model.state(),
+}
+
+
 def model_answers(calls):
     told = []
     model = Model()
@@ -114,22 +168,8 @@ def model_answers(calls):
         if call[0] == 1:
             model = Model()
             told.append([0])
-        elif call[0] == 2:
-            told.append(model.track(call[1], call[2], call[4:]))
-        elif call[0] == 3:
-            told.append(model.sense(*call[1:7], call[8:]))
-        elif call[0] == 4:
-            told.append(model.row(call[1], call[3:]))
-        elif call[0] == 5:
-            told.append(model.get(*call[1:]))
-        elif call[0] == 6:
-            told.append(model.filter(call[1], call[3:]))
-        elif call[0] == 7:
-            told.append(model.run(*call[1:]))
-        elif call[0] == 8:
-            told.append(model.blend(*call[1:]))
         else:
-            told.append(model.still(*call[1:]))
+            told.append(MODEL_CALLS[call[0]](model, call))
     return told
 
 
@@ -160,6 +200,32 @@ class ModelTest(unittest.TestCase):
                 rows = [row(9, [some_sample(chance) for _ in range(600)]) for _ in range(2)]
                 go = [blend(0, 0, 1), blend(0, 1, 0)] if kind == 4 else [run(0, 0), run(0, 1)]
                 self.check([new(), filter_(kind, taps)] + rows + go + [get(2), get(3)])
+
+    def test_rows_made_of_rows_by_chance(self):
+        chance = random.Random(23)
+        for _ in range(150):
+            calls = [new()] + [some_row(chance) for _ in range(8)]
+            calls += [some_shape(chance, 12) for _ in range(20)] + [get(a) for a in range(8, 28)]
+            calls += [some_finding(chance, 12) for _ in range(40)] + [state()]
+            self.check(calls)
+
+    def test_all_calls_on_one_bench_by_chance(self):
+        chance = random.Random(24)
+        for _ in range(100):
+            calls = [new()]
+            for _ in range(33):
+                calls += [some_call(chance), some_shape(chance, 20), some_finding(chance, 20)]
+            self.check(calls)
+
+    def test_findings_of_long_rows_by_chance(self):
+        chance = random.Random(25)
+        for sizes in ((1023, 1024), (1025, 2049), (2048, 1), (3, 4000), (3000, 3000)):
+            rows = [row(9, [some_sample(chance) for _ in range(n)]) for n in sizes]
+            most = chance.choice((0, 17, 100))
+            asked = [late(0, 1, most), late(1, 0, most), late(1, 1, most)]
+            asked += [patterns(a, chance.randint(0, 40), 10) for a in (0, 1)]
+            asked += [passes(a, -500, 1000) for a in (0, 1)] + [sums(0), sums(1)]
+            self.check([new()] + rows + asked)
 
 
 if __name__ == "__main__":
